@@ -1,0 +1,1 @@
+"""Owedafresh: shared bills that are corrected after paying."""
