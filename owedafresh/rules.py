@@ -166,8 +166,8 @@ def by_rows(people, rows):
     """Return the rule of a table: a row of shares for each rest of the sum of all bills."""
     weights = checked_weights(people)
     check_rows(rows, sum(weights), len(weights))
-    rests = range(len(rows))
-    return Rule(people, [[table_step(weights, rows, state, rest) for rest in rests] for state in rests])
+    whole = len(rows)
+    return Rule(people, [[table_step(weights, rows, state, rest) for rest in range(whole)] for state in range(whole)])
 
 
 def with_cent(weights, row):
