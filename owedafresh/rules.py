@@ -29,39 +29,36 @@ def checked_weights(people):
     return weights
 
 
-def deals_rest(extras, rest, many):
-    """Tell whether extra cents deal a rest among so many people."""
-    return len(extras) == many and sum(extras) == rest
-
-
-def is_step(states, state, rest, many):
-    """Tell whether a state has extra cents and a next state for a rest, as a rule needs them."""
-    row = states[state]
-    if rest >= len(row):
-        return False
-    extras, after = row[rest]
-    if not deals_rest(extras, rest, many):
-        return False
-    if state == 0 and rest == 0 and any(extras):
-        return False
-    return 0 <= after < len(states)
+def wrong_rest(row, whole, many, most):
+    """Return the first rest that a state does not deal as a rule needs it, None if there is none."""
+    for rest, (extras, after) in enumerate(row):
+        if rest == whole or len(extras) != many or sum(extras) != rest or not 0 <= after < most:
+            return rest
+    if len(row) < whole:
+        return len(row)
+    return None
 
 
 def check_states(states, whole, many):
     """Raise an error if states are not those of a rule of a whole weight and so many people."""
     if len(states) == 0:
         raise InvalidState(0)
-    for state in range(len(states)):
-        for rest in range(whole):
-            if not is_step(states, state, rest, many):
-                raise InvalidRow((state, rest))
-        if len(states[state]) > whole:
-            raise InvalidRow((state, whole))
+    if len(states[0]) > 0 and any(states[0][0][0]):
+        raise InvalidRow((0, 0))
+    for state, row in enumerate(states):
+        rest = wrong_rest(row, whole, many, len(states))
+        if rest is not None:
+            raise InvalidRow((state, rest))
 
 
-def copied_states(states):
-    """Return states in lists of their own."""
-    return [[(list(extras), after) for extras, after in row] for row in states]
+def columns_of(rows):
+    """Return the tuple of tuples of what rows of integers hold of each one of the people, row by row."""
+    return tuple(zip(*rows))
+
+
+def rows_of(columns):
+    """Return the list of lists of integers, of which columns are those of each one of the people."""
+    return [list(row) for row in zip(*columns)]
 
 
 class Rule:
@@ -70,8 +67,9 @@ class Rule:
     def __init__(self, people, states):
         weights = checked_weights(people)
         check_states(states, sum(weights), len(weights))
-        self._people = [(name, weight) for name, weight in people]
-        self._states = copied_states(states)
+        self._people = tuple([(name, weight) for name, weight in people])
+        self._cents = tuple([columns_of([extras for extras, _ in row]) for row in states])
+        self._nexts = tuple([tuple([after for _, after in row]) for row in states])
         self._weight = sum(weights)
 
     @property
@@ -82,47 +80,64 @@ class Rule:
     @property
     def states(self):
         """The list of lists of tuples (extras, next)."""
-        return copied_states(self._states)
+        return [list(zip(rows_of(self._cents[k]), row)) for k, row in enumerate(self._nexts)]
 
     @property
     def weight(self):
         """The whole weight."""
         return self._weight
 
+    # Tuples, which nobody can change, so that they need not be copied for those who only look at them.
+    @property
+    def cents(self):
+        """The tuple of tuples, one for each state, of the extra cents of each one of the people, rest by rest."""
+        return self._cents
+
+    @property
+    def nexts(self):
+        """The tuple of tuples, one for each state, of the next states, rest by rest."""
+        return self._nexts
+
+    def place(self, name):
+        """Return the index of one of the people."""
+        for place, (known, _) in enumerate(self._people):
+            if known == name:
+                return place
+        raise UnknownPerson(name)
+
     def __getitem__(self, at):
-        for name, weight in self._people:
-            if name == at:
-                return weight
-        raise UnknownPerson(at)
+        return self._people[self.place(at)][1]
 
     # Without it Python would try the numbers from 0 on as names.
     def __iter__(self):
         raise TypeError("a rule is not iterated over")
 
     def __len__(self):
-        return len(self._states)
+        return len(self._nexts)
 
     def __eq__(self, other):
         if not isinstance(other, Rule):
             return False
-        return self._people == other._people and self._states == other._states
+        return self._people == other._people and self._cents == other._cents and self._nexts == other._nexts
 
     def shares(self, bills):
         """Return the list of what each one owes of a list of bills, in the order of the people."""
-        totals = [0 for _ in self._people]
+        turns = 0
+        dealt = [0 for _ in self._people]
         state = 0
         for amount in bills:
             quotient, rest = divmod(amount, self._weight)
-            extras, state = self._states[state][rest]
-            for place, (_, weight) in enumerate(self._people):
-                totals[place] += quotient * weight + extras[place]
-        return totals
+            turns += quotient
+            for place, row in enumerate(self._cents[state]):
+                dealt[place] += row[rest]
+            state = self._nexts[state][rest]
+        return [turns * weight + dealt[place] for place, (_, weight) in enumerate(self._people)]
 
     def state(self, bills):
         """Return the state to which a list of bills leads."""
         state = 0
         for amount in bills:
-            _, state = self._states[state][amount % self._weight]
+            state = self._nexts[state][amount % self._weight]
         return state
 
 
@@ -147,7 +162,7 @@ def beside(rule, bills, index, amount):
 def check_rows(rows, whole, many):
     """Raise an error if rows are not those of a table of a whole weight and so many people."""
     for rest in range(whole):
-        if rest >= len(rows) or not deals_rest(rows[rest], rest, many):
+        if rest >= len(rows) or len(rows[rest]) != many or sum(rows[rest]) != rest:
             raise InvalidRow(rest)
         if rest == 0 and any(rows[rest]):
             raise InvalidRow(rest)
@@ -155,19 +170,31 @@ def check_rows(rows, whole, many):
         raise InvalidRow(whole)
 
 
-def table_step(weights, rows, state, rest):
-    """Return the extra cents and the next state of a table's rule, for a rest in a state."""
-    turns, after = divmod(state + rest, len(rows))
-    extras = [rows[after][k] - rows[state][k] + turns * weight for k, weight in enumerate(weights)]
-    return extras, after
+def table_cents(weights, columns):
+    """Return the extra cents of a table's rule, as a rule has them, out of the rows of each one of the people."""
+    whole = len(columns[0])
+    found = [[] for _ in range(whole)]
+    for weight, column in zip(weights, columns):
+        # The rows of two whole weights: a bill leads on in them, without a step back to the first ones.
+        ahead = list(column) + [cents + weight for cents in column]
+        for rest, cents in enumerate(column):
+            found[rest].append(tuple([later - cents for later in ahead[rest:rest + whole]]))
+    return [tuple(rows) for rows in found]
+
+
+def table_nexts(whole):
+    """Return the next states of the rule of a table of a whole weight, as a rule has them."""
+    rests = tuple(range(whole))
+    return [rests[rest:] + rests[:rest] for rest in rests]
 
 
 def by_rows(people, rows):
     """Return the rule of a table: a row of shares for each rest of the sum of all bills."""
     weights = checked_weights(people)
     check_rows(rows, sum(weights), len(weights))
-    whole = len(rows)
-    return Rule(people, [[table_step(weights, rows, state, rest) for rest in range(whole)] for state in range(whole)])
+    nexts = table_nexts(len(rows))
+    cents = table_cents(weights, columns_of(rows))
+    return Rule(people, [list(zip(rows_of(cents[rest]), nexts[rest])) for rest in range(len(rows))])
 
 
 def with_cent(weights, row):

@@ -1,9 +1,11 @@
 """What several tests share: rules to ask, and plain searches to hold answers against."""
 
 import copy
+import time
+from fractions import Fraction
 from itertools import product
 
-from owedafresh.rules import Rule
+from owedafresh.rules import Rule, by_rows
 
 ANN_BOB = [("ann", 1), ("bob", 1)]
 ANN_BOB_CY = [("ann", 1), ("bob", 1), ("cy", 1)]
@@ -100,6 +102,66 @@ def reached(rule):
     return order
 
 
+def some_small_rules(source, many):
+    """Rules of up to three people, with a whole weight of up to 3 and up to 4 states, and tables among them."""
+    found = []
+    while len(found) < many:
+        people = source.choice([ANN_BOB, ANN_BOB_CY, [("ann", 2), ("bob", 1)], [("ann", 1), ("bob", 0)],
+                                [("ann", 0), ("bob", 2)], [("ann", 1), ("bob", 1), ("cy", 0)]])
+        found.append(Rule(people, random_states(source, people, source.randint(1, 4), -1, source.randint(0, 2))))
+        table = by_rows(people, random_rows(source, people, -1, 2))
+        if len(table) > 1:
+            found.append(with_copies(source, table, source.randint(len(table), 4)))
+    return found
+
+
+def difference(rule, name, bills):
+    """The difference of somebody, as point [6] tells."""
+    place = [known for known, _ in rule.people].index(name)
+    shares, _ = plain_shares(rule.people, rule.states, bills)
+    return shares[place] - Fraction(sum(bills) * rule.people[place][1], rule.weight)
+
+
+def as_told(value):
+    """A fraction, perhaps None, as the program tells it."""
+    return None if value is None else (value.numerator, value.denominator)
+
+
+def told_value(told):
+    """The fraction that the program tells, perhaps None."""
+    return None if told is None else Fraction(*told)
+
+
+def plain_walk(gains, nexts, state, bills):
+    """What bills from a state on add to a total, and the state behind them."""
+    total = 0
+    for rest in bills:
+        total, state = total + gains[state][rest], nexts[state][rest]
+    return total, state
+
+
+def plain_bounds(rule, name):
+    """The bounds of somebody, None where there are none, by a search over all lists of as many bills as states."""
+    lists = list(short_lists(rule.weight, len(rule)))
+    place, states = [known for known, _ in rule.people].index(name), rule.states
+    # Times the whole weight, so that they are integers.
+    gains = [[extras[place] * rule.weight - rest * rule[name] for rest, (extras, _) in enumerate(row)]
+             for row in states]
+    nexts = [[after for _, after in row] for row in states]
+    told, endless = {}, {1: set(), -1: set()}
+    for bills in lists:
+        total, state = plain_walk(gains, nexts, 0, bills)
+        told.setdefault(state, []).append(Fraction(total, rule.weight))
+    for state in told:
+        walks = [plain_walk(gains, nexts, state, bills) for bills in lists]
+        for sign in (1, -1):
+            if any(after == state and sign * total > 0 for total, after in walks):
+                endless[sign].update(after for _, after in walks)
+    lows = {state: None if state in endless[-1] else min(told[state]) for state in told}
+    highs = {state: None if state in endless[1] else max(told[state]) for state in told}
+    return [(state, lows[state], highs[state]) for state in sorted(told)]
+
+
 def lists_in(value):
     """All lists in a value of lists and tuples, however deep."""
     found = [value] if isinstance(value, list) else []
@@ -130,3 +192,13 @@ def unchanged_by(call, *args):
     except ValueError:
         pass
     return args == before
+
+
+def seconds(function, *args):
+    """How long a call takes, the least of five times."""
+    taken = []
+    for _ in range(5):
+        start = time.perf_counter()
+        function(*args)
+        taken.append(time.perf_counter() - start)
+    return min(taken)

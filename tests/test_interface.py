@@ -5,7 +5,7 @@ import inspect
 import pathlib
 import unittest
 
-from owedafresh import errors, rules, wholes
+from owedafresh import changes, differences, errors, payments, rules, wholes
 
 PACKAGE = pathlib.Path(__file__).resolve().parent.parent / "owedafresh"
 
@@ -23,6 +23,28 @@ FUNCTIONS = {
         "unlike": ["rule"],
         "first_unlike": ["one", "other"],
         "least": ["rule"],
+    },
+    differences: {
+        "greatest": ["rule", "name"],
+        "lowest": ["rule", "name"],
+        "greatest_bills": ["rule", "name"],
+        "lowest_bills": ["rule", "name"],
+        "growing": ["rule", "name"],
+        "sinking": ["rule", "name"],
+        "bounds": ["rule", "name"],
+        "judge_bounds": ["rule", "name", "told"],
+    },
+    changes: {
+        "changes": ["rule", "name"],
+        "lowered": ["rule", "name"],
+        "pairs": ["rule"],
+        "judge_changes": ["rule", "name", "told"],
+    },
+    payments: {
+        "fewest": ["balances"],
+        "groups": ["balances"],
+        "payments": ["balances"],
+        "settles": ["balances", "told"],
     },
 }
 CLASSES = {
