@@ -1,42 +1,51 @@
 """Whole rules, whose shares hang on the sum of all bills alone, and rules that deal alike."""
 
 from owedafresh.errors import NotWhole, UnlikePeople
-from owedafresh.rules import Rule
+from owedafresh.rules import Rule, rows_of, table_cents, table_nexts
+from owedafresh.walks import first_leads
 
 
-def first_bills(whole, is_sought, place):
-    """Return the first list of bills, by length, then as lists, that is sought; None if there is none.
+def first_other(cents, others):
+    """Return the first rest of which two states deal other extra cents."""
+    return [one == other for one, other in zip(rows_of(cents), rows_of(others))].index(False)
 
-    Bills go from 0 to one less than the whole weight. Of two lists with the same place, neither of
-    them sought, the same bills behind both must lead to the same place again, and to one that is
-    sought for both or for neither: so only the first list with each place is made longer.
+
+def first_apart(cents, nexts, others, ways):
+    """Return the first list of bills, by length, then as lists, of which two rules have unlike shares, None if none.
+
+    The rules are given by their extra cents and next states: cents and nexts, others and ways. Two states to which a
+    list leads are of one kind from then on, and a list that leads to two of one kind is not made longer: bills that
+    are dealt otherwise behind it are so behind an earlier list, one of those that made them one kind.
     """
-    found = {place([]): True}
-    leads = [[]]
+    many = len(cents)
+    # The kinds of the states of both rules, those of the other one behind, and the states of each kind.
+    kinds = list(range(many)) + [0] + list(range(many + 1, many + len(others)))
+    members = [[state] for state in range(many + len(others))]
+    members[0] = [0, many]
+    leads = [([], 0, 0)]
     at = 0
     while at < len(leads):
-        for amount in range(whole):
-            bills = leads[at] + [amount]
-            if is_sought(bills):
-                return bills
-            reached = place(bills)
-            if reached not in found:
-                found[reached] = True
-                leads.append(bills)
+        bills, state, twin = leads[at]
+        if cents[state] != others[twin]:
+            return bills + [first_other(cents[state], others[twin])]
+        for amount, (after, beyond) in enumerate(zip(nexts[state], ways[twin])):
+            one, other = kinds[after], kinds[many + beyond]
+            if one != other:
+                for member in members[other]:
+                    kinds[member] = one
+                members[one] = members[one] + members[other]
+                leads.append((bills + [amount], after, beyond))
         at += 1
     return None
 
 
 def unlike(rule):
     """Return a tuple of two lists of bills with the same sum and unlike shares, None if there are none."""
-    # All lists with one sum have like shares exactly if each has those of its sum as the only bill.
-    def is_odd(bills):
-        return rule.shares(bills) != rule.shares([sum(bills)])
-
-    def place(bills):
-        return rule.state(bills), sum(bills) % rule.weight
-
-    bills = first_bills(rule.weight, is_odd, place)
+    # All lists with one sum have like shares exactly if the rule deals as that of the table of its rests does,
+    # which deals each list as its sum; and this, as the only bill, is what the rule itself has in the table.
+    weights = [weight for _, weight in rule.people]
+    table = table_cents(weights, rule.cents[0])
+    bills = first_apart(rule.cents, rule.nexts, table, table_nexts(rule.weight))
     if bills is None:
         return None
     return bills, [sum(bills)]
@@ -49,7 +58,7 @@ def is_whole(rule):
 
 def rows_of_rests(rule):
     """Return the shares of each rest as the only bill, which are the table if the rule is whole."""
-    return [rule.shares([rest]) for rest in range(rule.weight)]
+    return rows_of(rule.cents[0])
 
 
 def rows(rule):
@@ -62,28 +71,21 @@ def rows(rule):
 
 def judge(rule, told):
     """Tell whether a rule is whole and told rows are those of its table."""
-    return is_whole(rule) and told == rows_of_rests(rule)
+    return told == rows_of_rests(rule) and is_whole(rule)
 
 
 def first_unlike(one, other):
     """Return the first list of bills of which two rules have unlike shares, None if there is none."""
     if one.people != other.people:
         raise UnlikePeople((one.people, other.people))
-
-    def is_odd(bills):
-        return one.shares(bills) != other.shares(bills)
-
-    def place(bills):
-        return one.state(bills), other.state(bills)
-
-    return first_bills(one.weight, is_odd, place)
+    return first_apart(one.cents, one.nexts, other.cents, other.nexts)
 
 
-def first_alikes(states):
+def first_alikes(rule):
     """Return for each state the first one that deals alike, whatever bills follow."""
-    marks = [0 for _ in states]
+    marks = [rule.cents.index(cents) for cents in rule.cents]
     while True:
-        looks = [[(extras, marks[after]) for extras, after in row] for row in states]
+        looks = [[mark] + [marks[after] for after in row] for mark, row in zip(marks, rule.nexts)]
         finer = [looks.index(look) for look in looks]
         if finer == marks:
             return marks
@@ -92,14 +94,13 @@ def first_alikes(states):
 
 def least(rule):
     """Return the rule with the fewest states that has the same shares for all lists of bills."""
-    states = rule.states
-    marks = first_alikes(states)
-    order = [marks[0]]
-    at = 0
-    while at < len(order):
-        row = states[order[at]]
-        for _, after in row:
-            if marks[after] not in order:
-                order.append(marks[after])
-        at += 1
-    return Rule(rule.people, [[(extras, order.index(marks[after])) for extras, after in states[k]] for k in order])
+    marks = first_alikes(rule)
+    nexts = [[marks[after] for after in row] for row in rule.nexts]
+    order = list(first_leads(nexts))
+    # Rules never change, so that one that is its own least rule need not be made again.
+    if order == list(range(len(rule))):
+        return rule
+    states = []
+    for state in order:
+        states.append(list(zip(rows_of(rule.cents[state]), [order.index(after) for after in nexts[state]])))
+    return Rule(rule.people, states)
