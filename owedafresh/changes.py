@@ -67,11 +67,11 @@ def lowered(rule, name):
     starts, ways = change_walks(rule, rule.place(name), LESS)
     best, endless = best_walks(starts, ways)
     total, lead, bills, _ = best_of(best)
-    if total <= 0 and len(endless) > 0:
-        walk = best_of(endless)
-        total, lead, bills = 1, walk[1], with_rounds(walk, ways)
     if total <= 0:
-        return None
+        if len(endless) == 0:
+            return None
+        walk = best_of(endless)
+        lead, bills = walk[1], with_rounds(walk, ways)
     return lead + bills, len(lead) - 1
 
 

@@ -170,9 +170,8 @@ def check_rows(rows, whole, many):
         raise InvalidRow(whole)
 
 
-def table_cents(weights, columns):
+def table_cents(weights, columns, whole):
     """Return the extra cents of a table's rule, as a rule has them, out of the rows of each one of the people."""
-    whole = len(columns[0])
     found = [[] for _ in range(whole)]
     for weight, column in zip(weights, columns):
         # The rows of two whole weights: a bill leads on in them, without a step back to the first ones.
@@ -193,7 +192,7 @@ def by_rows(people, rows):
     weights = checked_weights(people)
     check_rows(rows, sum(weights), len(weights))
     nexts = table_nexts(len(rows))
-    cents = table_cents(weights, columns_of(rows))
+    cents = table_cents(weights, columns_of(rows), len(rows))
     return Rule(people, [list(zip(rows_of(cents[rest]), nexts[rest])) for rest in range(len(rows))])
 
 

@@ -44,8 +44,10 @@ def unlike(rule):
     # All lists with one sum have like shares exactly if the rule deals as that of the table of its rests does,
     # which deals each list as its sum; and this, as the only bill, is what the rule itself has in the table.
     weights = [weight for _, weight in rule.people]
-    table = table_cents(weights, rule.cents[0])
-    bills = first_apart(rule.cents, rule.nexts, table, table_nexts(rule.weight))
+    # The last one of the people bears what all others leave of a bill, so that the others tell all.
+    cents = [columns[:-1] for columns in rule.cents]
+    table = table_cents(weights[:-1], cents[0], rule.weight)
+    bills = first_apart(cents, rule.nexts, table, table_nexts(rule.weight))
     if bills is None:
         return None
     return bills, [sum(bills)]
@@ -100,7 +102,8 @@ def least(rule):
     # Rules never change, so that one that is its own least rule need not be made again.
     if order == list(range(len(rule))):
         return rule
+    numbers = {state: number for number, state in enumerate(order)}
     states = []
     for state in order:
-        states.append(list(zip(rows_of(rule.cents[state]), [order.index(after) for after in nexts[state]])))
+        states.append(list(zip(rows_of(rule.cents[state]), [numbers[after] for after in nexts[state]])))
     return Rule(rule.people, states)

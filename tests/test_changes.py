@@ -149,6 +149,16 @@ class TestChanges(unittest.TestCase):
         far[4] = [(extras, 2) for extras, _ in far[4]]
         self.check(Rule(people, far), "ann", (None, None))
 
+    def test_rounds_that_lower_behind_other_bills_or_by_several_ones(self):
+        behind = [[([0, 0], 0), ([0, 1], 1)], [([0, 0], 2), ([1, 0], 1)], [([1, -1], 2), ([1, 0], 2)]]
+        several = [[([0, 0], 1), ([0, 1], 2)], [([0, 0], 1), ([0, 1], 1)], [([1, -1], 0), ([1, 0], 0)]]
+        for states in (behind, several):
+            self.check(Rule(ANN_BOB, states), "ann", (None, None))
+            self.check(Rule(ANN_BOB, states), "bob", (None, None))
+        states = [[([0, 0], 1), ([0, 1], 1), ([1, 1], 1)], [([0, 0], 2), ([1, 0], 2), ([1, 1], 2)],
+                  [([0, 0], 2), ([0, 1], 2), ([1, 1], 0)], [([1, -1], 0), ([1, 0], 0), ([0, 2], 1)]]
+        self.check(Rule([("ann", 2), ("bob", 1)], states), "ann", (None, None))
+
     def test_only_some_correction_lowers_a_share(self):
         states = first_rule(ANN_BOB_CY).states + in_turn(ANN_BOB_CY).states
         rule = Rule(ANN_BOB_CY, states)
@@ -233,6 +243,7 @@ class TestPairs(unittest.TestCase):
     def test_state_0_only_if_bills_lead_back_to_it(self):
         self.assertEqual(pairs(Rule(ANN_BOB, [[([0, 0], 1), ([1, 0], 1)], [([0, 0], 1), ([1, 0], 1)]])), [(1, 1)])
         self.assertEqual(pairs(first_rule(ANN_BOB)), [(0, 0)])
+        self.assertEqual(pairs(in_turn([("ann", 1)])), [(0, 0)])
 
     def test_against_all_short_lists(self):
         for rule in some_small_rules(random.Random(97), 20):

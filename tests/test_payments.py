@@ -235,6 +235,8 @@ class TestSettles(unittest.TestCase):
         self.check([(1, -6, 5), (3, 2, 3), (4, 2, 4)], False)
         self.check([(1, 0, 5), (3, 2, 3), (4, -4, 4)], False)
         self.check(self.TOLD + [(0, -6, 3)], False)
+        self.assertIs(settles([5, -5], [(-1, 0, 5)]), False)
+        self.assertIs(settles([-5, 5], [(0, -1, 5)]), False)
         self.assertIs(settles([], [(0, 1, 1)]), False)
         self.assertIs(settles([], [(0, 0, 1)]), False)
 

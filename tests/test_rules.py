@@ -151,6 +151,16 @@ class TestErrorsOfStates(unittest.TestCase):
         self.wrong_row([ODD[0], ODD[1][:1], []], (1, 1))
         self.wrong_row([ODD[0], ODD[1] + [([1, 1], 0)], []], (1, 2))
 
+    def test_the_rest_0_of_state_0(self):
+        one, cy = [("ann", 1), ("bob", 0)], [("ann", 1), ("bob", 0), ("cy", 0)]
+        self.wrong(one, [[([1, -1], 0)]], errors.InvalidRow, (0, 0))
+        self.wrong(cy, [[([0, 1, -1], 0)]], errors.InvalidRow, (0, 0))
+        self.wrong(cy, [[([1, -1, 0], 0)], []], errors.InvalidRow, (0, 0))
+        self.wrong(one, [[], [([0, 0], 0)]], errors.InvalidRow, (0, 0))
+        self.wrong(one, [[([1, -1], 0), ([0, 0], 0)], []], errors.InvalidRow, (0, 0))
+        self.wrong(ANN_BOB, [[([1, -1], 0)]], errors.InvalidRow, (0, 0))
+        self.assertEqual(Rule(one, [[([0, 0], 1)], [([1, -1], 0)]]).shares([0, 0]), [1, -1])
+
     def test_the_order_of_all(self):
         self.wrong([("Ann", 0)], [], errors.InvalidName, "Ann")
         self.wrong([("ann", 0)], [], errors.NoWeight, 0)
