@@ -22,24 +22,24 @@ class TestWholes(unittest.TestCase):
 
     def test_a_rule_of_the_greatest_size(self):
         rule = self.rule
-        self.check(90, is_whole, rule)
-        self.check(90, unlike, rule)
-        self.check(90, rows, rule)
-        self.check(30, first_unlike, rule, rule)
-        self.check(40, least, rule)
+        self.check(120, is_whole, rule)
+        self.check(120, unlike, rule)
+        self.check(120, rows, rule)
+        self.check(60, first_unlike, rule, rule)
+        self.check(50, least, rule)
 
     def test_judging_rows(self):
         right = rows(self.rule)
-        self.check(90, judge, self.rule, right)
-        self.check(10, judge, self.rule, [])
+        self.check(120, judge, self.rule, right)
+        self.check(20, judge, self.rule, [])
         wrong = right[:11] + [[2, 1, 2, 1, 2, 2, 0, 2]]
-        self.check(10, judge, self.rule, wrong)
+        self.check(20, judge, self.rule, wrong)
 
     def test_two_rules_that_come_to_many_pairs_of_states(self):
         one = Rule(FOUR, [[([m, 0, 0, 0], (k * 5 + m) % 6) for m in range(6)] for k in range(6)])
         other = Rule(FOUR, [[([m, 0, 0, 0], (k + 5 * m) % 6) for m in range(6)] for k in range(6)])
         self.assertIsNone(first_unlike(one, other))
-        self.check(25, first_unlike, one, other)
+        self.check(60, first_unlike, one, other)
 
 
 if __name__ == "__main__":
