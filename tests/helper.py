@@ -202,3 +202,73 @@ def seconds(function, *args):
         function(*args)
         taken.append(time.perf_counter() - start)
     return min(taken)
+
+
+class PlainLedger:
+    """A ledger that keeps its deeds alone, and works everything out of them again, as the document tells it."""
+
+    def __init__(self, rule, is_beside):
+        self.people, self.states, self.is_beside = rule.people, rule.states, is_beside
+        self.deeds = []
+
+    def written(self):
+        """The bills, as tuples (who paid, amount, the index of the bill whose difference it is), and the payments."""
+        bills, payments = [], []
+        for kind, one, two, three in self.deeds:
+            if kind == "bill":
+                bills.append((one, two, None))
+            elif kind == "pay":
+                payments.append((one, two, three))
+            elif self.is_beside:
+                counted = bills[one][1] + sum(amount for _, amount, target in bills if target == one)
+                bills.append((bills[one][0], two - counted, one))
+            else:
+                bills[one] = (bills[one][0], two, None)
+        return bills, payments
+
+    def bills(self):
+        return [amount for _, amount, _ in self.written()[0]]
+
+    def shares(self):
+        return plain_shares(self.people, self.states, self.bills())[0]
+
+    def balances(self):
+        bills, payments = self.written()
+        found = dict(zip([name for name, _ in self.people], [-share for share in self.shares()]))
+        for name, amount, _ in bills:
+            found[name] += amount
+        for name, other, amount in payments:
+            found[name] += amount
+            found[other] -= amount
+        return list(found.values())
+
+    def do(self, deed):
+        """Write a deed, and return the list of the changes of the shares."""
+        before = self.shares()
+        self.deeds.append(deed)
+        return [after - share for share, after in zip(before, self.shares())]
+
+
+def do_deed(ledger, deed):
+    """Make a ledger write a deed, and return what it tells."""
+    kind, one, two, three = deed
+    if kind == "bill":
+        return ledger(one, two)
+    return ledger.correct(one, two) if kind == "correct" else ledger.pay(one, two, three)
+
+
+def random_deed(source, rule, bills, most):
+    """A deed for a ledger with so many bills, of an amount from the negative of the most to the most."""
+    names = [name for name, _ in rule.people]
+    kind = source.choice(["bill", "correct", "correct", "pay"] if bills > 0 else ["bill", "pay"])
+    amount = source.choice([0, source.randint(-most, most), source.randint(-most, most)])
+    if kind == "bill":
+        return kind, source.choice(names), amount, None
+    if kind == "correct":
+        return kind, source.randrange(bills), amount, None
+    return kind, source.choice(names), source.choice(names), amount
+
+
+def what_it_tells(ledger):
+    """Everything that a ledger tells without a change."""
+    return ledger.bills, ledger.shares(), ledger.balances(), len(ledger)
