@@ -24,7 +24,8 @@ DUNDERS = """__init__ __eq__ __repr__ __str__ __len__ __enter__ __exit__ __call_
 METHODS = """append clear copy count endswith extend find get index insert isalnum isalpha isdigit islower isspace
     isupper items join keys ljust lower lstrip partition pop remove replace reverse rfind rjust rpartition rsplit rstrip
     setdefault split splitlines startswith strip update upper values zfill bit_length add discard popleft
-    appendleft""".split()
+    appendleft title capitalize swapcase casefold center expandtabs removeprefix removesuffix rindex isascii isdecimal
+    isnumeric istitle isidentifier isprintable""".split()
 STATEMENTS = (ast.Assign, ast.AugAssign, ast.If, ast.While, ast.For, ast.Return, ast.Break, ast.Continue, ast.Pass,
               ast.Raise, ast.Assert, ast.Delete, ast.Nonlocal, ast.Match, ast.With, ast.Try, ast.Expr,
               ast.FunctionDef, ast.ClassDef, ast.ImportFrom)
