@@ -1,11 +1,11 @@
-"""The names, arguments and places of the interface, as far as it has landed."""
+"""The names, arguments and places of the interface."""
 
 import ast
 import inspect
 import pathlib
 import unittest
 
-from owedafresh import changes, differences, errors, payments, rules, wholes
+from owedafresh import changes, differences, errors, ledgers, payments, readings, rules, texts, wholes
 
 PACKAGE = pathlib.Path(__file__).resolve().parent.parent / "owedafresh"
 
@@ -46,11 +46,20 @@ FUNCTIONS = {
         "payments": ["balances"],
         "settles": ["balances", "told"],
     },
+    texts: {
+        "show_rule": ["rule"],
+        "show_bills": ["bills"],
+    },
+    readings: {
+        "read_rule": ["text"],
+        "read_bills": ["text"],
+    },
 }
 CLASSES = {
     errors: ["BillError", "InvalidName", "DoubleName", "InvalidWeight", "NoWeight", "InvalidState", "InvalidRow",
              "UnknownPerson", "UnknownBill", "UnlikePeople", "NotWhole", "NotEven", "NothingToUndo", "Unreadable"],
     rules: ["Rule"],
+    ledgers: ["Ledger", "BesideLedger"],
 }
 
 
@@ -87,6 +96,19 @@ class TestInterface(unittest.TestCase):
             self.assertTrue(inspect.isfunction(own[name]))
         self.assertEqual(list(inspect.signature(rules.Rule.shares).parameters), ["self", "bills"])
         self.assertEqual(list(inspect.signature(rules.Rule.state).parameters), ["self", "bills"])
+
+    def test_the_ledgers(self):
+        own = vars(ledgers.Ledger)
+        self.assertIsInstance(own["bills"], property)
+        methods = {"__call__": ["self", "name", "amount"], "correct": ["self", "index", "amount"],
+                   "pay": ["self", "name", "other", "amount"], "balances": ["self"], "shares": ["self"],
+                   "undo": ["self"], "__len__": ["self"], "__eq__": ["self", "other"]}
+        for name, arguments in methods.items():
+            self.assertEqual(list(inspect.signature(own[name]).parameters), arguments)
+        beside = vars(ledgers.BesideLedger)["correct"]
+        self.assertEqual(list(inspect.signature(beside).parameters), ["self", "index", "amount"])
+        for kind in (ledgers.Ledger, ledgers.BesideLedger):
+            self.assertEqual(list(inspect.signature(kind).parameters), ["rule"])
 
     def test_the_kinds_of_values(self):
         people = [("ann", 1), ("bob", 1)]
